@@ -1,0 +1,148 @@
+"""The package keeps to a part of the language: what a look at its files can tell of that."""
+
+import ast
+import builtins
+import pathlib
+import re
+import unittest
+
+FOLDER = pathlib.Path(__file__).resolve().parent.parent / "almsrow"
+FILES = {path.stem: path.read_bytes() for path in sorted(FOLDER.glob("*.py"))}
+TREES = {name: ast.parse(text) for name, text in FILES.items()}
+
+NODES = (
+    "Module ImportFrom alias FunctionDef ClassDef arguments arg Return Assign AugAssign For While If Raise Pass Expr "
+    "Break Continue BoolOp And Or BinOp Add Sub Mult FloorDiv Mod UnaryOp Not USub IfExp Compare Eq NotEq Lt LtE Gt "
+    "GtE Is IsNot In NotIn Call Constant Attribute Subscript Slice Name Load Store Tuple List ListComp GeneratorExp "
+    "comprehension"
+).split()
+CALLED = "len range min max sum isinstance list tuple all any divmod ValueError".split()
+METHODS = ["append", "count"]
+BARRED = (
+    "register mro elements open input law version_info type vars id dir copyright license exit compile super typing "
+    "enum namedtuple os sys gc format"
+).split()
+
+
+def nodes(*kinds):
+    for name, tree in TREES.items():
+        for node in ast.walk(tree):
+            if isinstance(node, kinds):
+                yield name, node
+
+
+def bound_names(tree):
+    for node in ast.walk(tree):
+        if isinstance(node, ast.Name) and isinstance(node.ctx, ast.Store):
+            yield node.id
+        if isinstance(node, ast.arg):
+            yield node.arg
+
+
+class TestForm(unittest.TestCase):
+    def test_the_folder_holds_just_files(self):
+        for path in FOLDER.iterdir():
+            if path.name != "__pycache__":
+                self.assertRegex(path.name, r"^[a-z_]+\.py$")
+
+    def test_lines(self):
+        for name, text in FILES.items():
+            lines = text.decode("ascii").split("\n")
+            self.assertLess(len(lines), 400, name)
+            self.assertEqual(lines[-1], "", name)
+            for line in lines:
+                self.assertRegex(line, r"^[ -~]{0,120}$", name)
+                self.assertEqual(line, line.rstrip(), name)
+
+    def test_only_what_is_known_is_used(self):
+        for name, node in nodes(ast.AST):
+            self.assertIn(type(node).__name__, NODES, name)
+
+    def test_functions(self):
+        for name, node in nodes(ast.FunctionDef):
+            self.assertLessEqual(node.end_lineno - node.lineno + 1, 40, (name, node.name))
+            self.assertFalse(node.decorator_list or node.args.defaults or node.args.kwonlyargs or node.returns)
+            self.assertFalse(node.args.vararg or node.args.kwarg or [arg for arg in node.args.args if arg.annotation])
+
+    def test_module_level(self):
+        for name, tree in TREES.items():
+            self.assertIsNotNone(ast.get_docstring(tree), name)
+            for node in tree.body[1:]:
+                self.assertIsInstance(node, (ast.ImportFrom, ast.FunctionDef, ast.ClassDef, ast.Assign), name)
+                if isinstance(node, ast.Assign):
+                    ast.literal_eval(node.value)
+
+    def test_imports_name_the_defining_file(self):
+        for name, node in nodes(ast.ImportFrom):
+            package, _, file = node.module.partition(".")
+            self.assertEqual((package, node.level), ("almsrow", 0), name)
+            defined = {part.name for part in TREES[file].body if isinstance(part, (ast.FunctionDef, ast.ClassDef))}
+            for alias in node.names:
+                self.assertIn(alias.name, defined, name)
+                self.assertIsNone(alias.asname)
+
+    def test_all_that_is_imported_is_used(self):
+        for name, node in nodes(ast.ImportFrom):
+            used = {part.id for part in ast.walk(TREES[name]) if isinstance(part, ast.Name)}
+            for alias in node.names:
+                self.assertIn(alias.name, used, name)
+
+    def test_no_two_files_import_from_each_other(self):
+        ahead = {name: {node.module.split(".")[1] for node in ast.walk(tree) if isinstance(node, ast.ImportFrom)}
+                 for name, tree in TREES.items()}
+        while ahead:
+            free = [name for name in ahead if not ahead[name] & set(ahead)]
+            self.assertTrue(free, ahead)
+            ahead = {name: some for name, some in ahead.items() if name not in free}
+
+    def test_names(self):
+        for name, tree in TREES.items():
+            defined = {node.name for node in ast.walk(tree) if isinstance(node, (ast.FunctionDef, ast.ClassDef))}
+            imported = {alias.name for node in ast.walk(tree) if isinstance(node, ast.ImportFrom) for alias in node.names}
+            for told in (set(bound_names(tree)) | defined) - {"__init__"}:
+                self.assertFalse(hasattr(builtins, told), (name, told))
+                self.assertNotIn(told, BARRED, name)
+                self.assertNotIn(told, imported, name)
+                self.assertRegex(told, r"^(_|_?[A-Za-z][A-Za-z0-9_]*)$", name)
+                self.assertNotRegex(told, r"^_(wall|pe_|dcw_|enum_|cm_|twin_re_|lay_|law_|stub_|sre|cold|outside|record)")
+            self.assertFalse(set(bound_names(tree)) & defined, name)
+
+    def test_what_is_called(self):
+        for name, node in nodes(ast.Call):
+            self.assertFalse(node.keywords, name)
+            if isinstance(node.func, ast.Attribute):
+                self.assertIn(node.func.attr, METHODS, name)
+            elif hasattr(builtins, node.func.id):
+                self.assertIn(node.func.id, CALLED, name)
+
+    def test_generator_expressions_stand_in_all_and_any(self):
+        inside = [id(node.args[0]) for _, node in nodes(ast.Call)
+                  if isinstance(node.func, ast.Name) and node.func.id in ("all", "any")]
+        for name, node in nodes(ast.GeneratorExp):
+            self.assertIn(id(node), inside, name)
+
+    def test_constants(self):
+        for name, node in nodes(ast.Constant):
+            self.assertIsInstance(node.value, (int, str, type(None)), name)
+            if isinstance(node.value, str):
+                self.assertNotIn("%", node.value, name)
+        for name, node in nodes(ast.Compare):
+            for sign, other in zip(node.ops, node.comparators):
+                if isinstance(sign, (ast.Is, ast.IsNot)):
+                    self.assertIsInstance(other, ast.Constant, name)
+
+    def test_words_that_stand_nowhere(self):
+        for name, tree in TREES.items():
+            told = [node.value for node in ast.walk(tree) if isinstance(node, ast.Constant)]
+            docs = [ast.get_docstring(node, clean=False) for node in ast.walk(tree)
+                    if isinstance(node, (ast.Module, ast.FunctionDef, ast.ClassDef))]
+            for text in told:
+                if isinstance(text, str) and text not in docs:
+                    self.assertIsNone(re.search(r"\b(type|enum|Enum|Flag|Generic|Protocol|ABC)\b", text), name)
+            self.assertNotIn(b"_wall", FILES[name])
+            self.assertNotIn(b"_WallAttr", FILES[name])
+
+    def test_errors_are_made_where_they_are_raised(self):
+        for name, node in nodes(ast.Raise):
+            self.assertIsInstance(node.exc, ast.Call, name)
+            self.assertIsNone(node.cause)
