@@ -37,8 +37,8 @@ class NoSeat(AlmsError):
 class NoTurn(AlmsError):
     """There is no such turn, or no such count of turns."""
 
-    def __init__(self, number):
-        self.number = number
+    def __init__(self, turn):
+        self.turn = turn
 
 
 class NoWeek(AlmsError):

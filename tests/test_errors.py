@@ -4,7 +4,7 @@ from almsrow import errors
 
 FIELDS = {
     "NoPaper": ("word", "at"), "NoName": ("name",), "NoPlace": ("place",), "NoSeat": ("seat",),
-    "NoTurn": ("number",), "NoWeek": ("week",), "NoPage": ("word",), "NoBack": (),
+    "NoTurn": ("turn",), "NoWeek": ("week",), "NoPage": ("word",), "NoBack": (),
     "NoText": ("row", "word"), "NoRow": ("row",),
 }
 

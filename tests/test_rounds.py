@@ -65,7 +65,7 @@ class TestBounds(unittest.TestCase):
         for k in (-1, -10 ** 30):
             with self.assertRaises(NoTurn) as caught:
                 bounds_of((3, 2, 1), 0, k)
-            self.assertEqual(caught.exception.number, k)
+            self.assertEqual(caught.exception.turn, k)
 
 
 class TestRound(unittest.TestCase):

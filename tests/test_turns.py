@@ -102,11 +102,11 @@ class TestRefused(unittest.TestCase):
 
     def test_turns_and_counts_below(self):
         for number in (-1, -6, -LONG):
-            self.refuse(NoTurn, "number", seat_of, WEIGHTS, number)
-            self.refuse(NoTurn, "number", how_many, WEIGHTS, 0, number)
-            self.refuse(NoTurn, "number", next_turn, WEIGHTS, 2, number)
-            self.refuse(NoTurn, "number", nth_turn, WEIGHTS, 2, number)
-        self.refuse(NoTurn, "number", nth_turn, WEIGHTS, 0, 0)
+            self.refuse(NoTurn, "turn", seat_of, WEIGHTS, number)
+            self.refuse(NoTurn, "turn", how_many, WEIGHTS, 0, number)
+            self.refuse(NoTurn, "turn", next_turn, WEIGHTS, 2, number)
+            self.refuse(NoTurn, "turn", nth_turn, WEIGHTS, 2, number)
+        self.refuse(NoTurn, "turn", nth_turn, WEIGHTS, 0, 0)
         self.assertEqual(how_many(WEIGHTS, 0, 0), 0)
         self.assertEqual(next_turn(WEIGHTS, 2, 0), 5)
 

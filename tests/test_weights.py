@@ -79,4 +79,4 @@ class TestRefused(unittest.TestCase):
             for j in (0, -1, -10 ** 30):
                 with self.assertRaises(NoTurn) as caught:
                     call((3, 2, 1), 2, j)
-                self.assertEqual(caught.exception.number, j)
+                self.assertEqual(caught.exception.turn, j)
