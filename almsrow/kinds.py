@@ -43,7 +43,17 @@ def is_type(thing):
 
 def is_count(thing):
     """True of a number from 0 on."""
-    return is_number(thing) and thing >= 0
+    return is_from(thing, 0)
+
+
+def is_from(thing, least):
+    """True of a number from the least on."""
+    return is_number(thing) and thing >= least
+
+
+def is_tuple(thing, many):
+    """True of a tuple of just so many things."""
+    return isinstance(thing, tuple) and len(thing) == many
 
 
 def is_rising(things):

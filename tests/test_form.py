@@ -14,10 +14,10 @@ NODES = (
     "Module ImportFrom alias FunctionDef ClassDef arguments arg Return Assign AugAssign For While If Raise Pass Expr "
     "Break Continue BoolOp And Or BinOp Add Sub Mult FloorDiv Mod UnaryOp Not USub IfExp Compare Eq NotEq Lt LtE Gt "
     "GtE Is IsNot In NotIn Call Constant Attribute Subscript Slice Name Load Store Tuple List ListComp GeneratorExp "
-    "comprehension"
+    "comprehension Dict DictComp SetComp keyword"
 ).split()
-CALLED = "len range min max sum isinstance list tuple all any divmod ValueError".split()
-METHODS = ["append", "count"]
+CALLED = "len range min max sum isinstance list tuple dict sorted all any divmod ValueError".split()
+METHODS = "append count index get setdefault".split()
 BARRED = (
     "register mro elements open input law version_info type vars id dir copyright license exit compile super typing "
     "enum namedtuple os sys gc format"
@@ -37,6 +37,19 @@ def bound_names(tree):
             yield node.id
         if isinstance(node, ast.arg):
             yield node.arg
+
+
+def defined_names(tree):
+    """The names of a file's functions and classes, and those assigned at its module level."""
+    for part in tree.body:
+        if isinstance(part, (ast.FunctionDef, ast.ClassDef)):
+            yield part.name
+        if isinstance(part, ast.Assign):
+            yield part.targets[0].id
+
+
+def own_methods():
+    return {part.name for _, node in nodes(ast.ClassDef) for part in node.body if isinstance(part, ast.FunctionDef)}
 
 
 class TestForm(unittest.TestCase):
@@ -76,9 +89,8 @@ class TestForm(unittest.TestCase):
         for name, node in nodes(ast.ImportFrom):
             package, _, file = node.module.partition(".")
             self.assertEqual((package, node.level), ("almsrow", 0), name)
-            defined = {part.name for part in TREES[file].body if isinstance(part, (ast.FunctionDef, ast.ClassDef))}
             for alias in node.names:
-                self.assertIn(alias.name, defined, name)
+                self.assertIn(alias.name, defined_names(TREES[file]), name)
                 self.assertIsNone(alias.asname)
 
     def test_all_that_is_imported_is_used(self):
@@ -109,9 +121,11 @@ class TestForm(unittest.TestCase):
 
     def test_what_is_called(self):
         for name, node in nodes(ast.Call):
-            self.assertFalse(node.keywords, name)
+            for keyword in node.keywords:
+                self.assertEqual((node.func.id, keyword.arg), ("sorted", "key"), name)
+                self.assertIsInstance(keyword.value, ast.Name, name)
             if isinstance(node.func, ast.Attribute):
-                self.assertIn(node.func.attr, METHODS, name)
+                self.assertIn(node.func.attr, own_methods().union(METHODS), name)
             elif hasattr(builtins, node.func.id):
                 self.assertIn(node.func.id, CALLED, name)
 
@@ -120,6 +134,23 @@ class TestForm(unittest.TestCase):
                   if isinstance(node.func, ast.Name) and node.func.id in ("all", "any")]
         for name, node in nodes(ast.GeneratorExp):
             self.assertIn(id(node), inside, name)
+
+    def test_set_comprehensions_stand_in_sorted(self):
+        inside = [id(node.args[0]) for _, node in nodes(ast.Call)
+                  if isinstance(node.func, ast.Name) and node.func.id == "sorted" and not node.keywords]
+        for name, node in nodes(ast.SetComp):
+            self.assertIn(id(node), inside, name)
+
+    def test_attributes(self):
+        barred = ("items keys values pop update append clear extend insert remove reverse setdefault sort args encode "
+                  "decode hex fromhex format mro").split()
+        for name, node in nodes(ast.Attribute):
+            if isinstance(node.ctx, ast.Store):
+                self.assertNotIn(node.attr, barred, name)
+                self.assertNotIn(node.attr, own_methods(), name)
+                self.assertIsInstance(node.value, ast.Name, name)
+            self.assertNotIn(node.attr, "register mro elements open input law version_info".split(), name)
+            self.assertNotRegex(node.attr, "^__", name)
 
     def test_constants(self):
         for name, node in nodes(ast.Constant):
