@@ -41,6 +41,10 @@ class People:
             return None
         return heir
 
+    def is_away(self, name, day):
+        """True where the name is away on the day."""
+        return any(start <= day < start + many for start, many in self.away.get(name, []))
+
     def forest(self):
         """Whose parent each one is."""
         return tuple([(name, self.came[name][2]) for name in self.came])

@@ -2,16 +2,18 @@
 
 from almsrow.deeds import weights_of
 from almsrow.holding import broken
-from almsrow.people import People
+from almsrow.people import YEAR, People
+from almsrow.purse import Purse
 from almsrow.rounds import round_of
 
 
 class Place:
     """A place: who is in it, its open turn, the turns that were spent since it became empty."""
 
-    def __init__(self, number, by_row, rules):
+    def __init__(self, number, by_row, rate, rules):
         self.number = number
         self.by_row = by_row
+        self.rate = rate
         self.rules = rules
         self.dweller = None
         self.turn = None
@@ -27,12 +29,13 @@ class Standing:
     """All that a walk has come to.
 
     homes tells of each name that ever was housed its (place, day, number); turn_rows, history and
-    idle are as they are told of a moment.
+    idle are as they are told of a moment; nights_away tells of (name, year) how many evenings found
+    the name both housed and away; lost has each (name, day) that is lost.
     """
 
     def __init__(self, deed):
         self.founder = deed[0]
-        self.places = [Place(k, deed[1][k][0] == "row", deed[1][k][2]) for k in range(len(deed[1]))]
+        self.places = [Place(k, deed[1][k][0] == "row", deed[1][k][1], deed[1][k][2]) for k in range(len(deed[1]))]
         self.holders = [holder for holder, _ in deed[2]]
         self.terms = deed[3]
         self.people = People()
@@ -41,6 +44,9 @@ class Standing:
         self.turn_rows = []
         self.history = []
         self.idle = []
+        self.nights_away = {}
+        self.lost = {}
+        self.purse = Purse()
         # Made once, as it is asked for each turn.
         self.round_told = round_of(weights_of(deed))
 
@@ -62,6 +68,22 @@ class Standing:
         if name not in self.homes or day < self.homes[name][1]:
             return False
         return name not in self.people.gone or day < self.people.gone[name]
+
+    def home_of(self, name):
+        """The (place, day, number) of a name that is housed, None of any other."""
+        if name in self.people.gone:
+            return None
+        return self.homes.get(name)
+
+    def find_away(self, day):
+        """Notes whom the day's evening finds away, and for whom the day is lost."""
+        for place in self.places:
+            name = place.dweller
+            if name is not None and self.people.is_away(name, day):
+                year = (name, day // YEAR)
+                self.nights_away[year] = self.nights_away.get(year, 0) + 1
+                if self.nights_away[year] > self.terms[2]:
+                    self.lost[(name, day)] = True
 
     def house(self, place, name, moment, how):
         """Lets the name have the place."""

@@ -1,9 +1,11 @@
 """The walk of a book."""
 
 from almsrow.books import up_to
+from almsrow.errors import NoWeek
 from almsrow.pages import EVENING
 from almsrow.standing import Standing
 from almsrow.turning import name_by_turn, turn_evening, turn_holder
+from almsrow.weekly import WEEK, reckon_week
 
 
 def behind(deed, book, moment):
@@ -21,6 +23,20 @@ def behind(deed, book, moment):
     return standing
 
 
+def behind_with(deed, book, moment, name):
+    """How all stands behind the moment; NoName where the name didn't come."""
+    standing = behind(deed, book, moment)
+    standing.people.need_name(name)
+    return standing
+
+
+def behind_week(deed, book, week):
+    """How all stands behind the reckoning of the week; NoWeek where it isn't reckoned."""
+    if not book or week < book[0][0] // WEEK:
+        raise NoWeek(week)
+    return behind(deed, book, (WEEK * week + WEEK - 1, EVENING))
+
+
 def last_evening(moment):
     """The day of the last evening that is walked by the moment, of those behind the first page."""
     if moment[1] == EVENING:
@@ -34,6 +50,9 @@ def _walk_evenings(standing, start, end):
         for place in standing.places:
             if place.dweller is None:
                 _walk_evening(standing, place, day)
+        standing.find_away(day)
+        if day % WEEK == WEEK - 1:
+            reckon_week(standing, day // WEEK)
 
 
 def _walk_evening(standing, place, day):
@@ -91,6 +110,8 @@ def _do_page(standing, page):
     kind = page[2]
     if kind == "sell":
         standing.pass_seats(page[3], page[4])
+    if kind == "rent":
+        standing.purse.take_rent(page[3])
     if kind == "ask":
         _do_ask(standing, page[3], moment)
     if kind == "name":
@@ -108,6 +129,7 @@ def _do_ask(standing, name, moment):
 
 def _do_go(standing, name, moment):
     standing.leave_row(name)
+    standing.purse.strike_debts(name)
     standing.pass_seats(name, standing.people.heir_of(name))
     if name in standing.homes:
         place = standing.places[standing.homes[name][0]]

@@ -3,6 +3,7 @@
 Written apart from the program, and slow; with it books are made at hand whose pages are mostly no idle ones.
 """
 
+from fractions import Fraction
 from functools import lru_cache
 
 from tests.common import TOWNS, holds, maker, some_literal
@@ -34,6 +35,19 @@ def slow_ties(pairs, one, other):
                     steps[back] = steps[name] + 1
                     seen.append(back)
     return steps.get(other)
+
+
+def slow_shares(some, pence):
+    """Shares told penny by penny: each penny left goes to the due that is farthest below its part."""
+    whole = [Fraction(pence * due, sum(some)) for due in some]
+    told = [int(part) for part in whole]
+    given = []
+    while sum(told) < pence:
+        free = [k for k in range(len(some)) if k not in given]
+        best = max(whole[k] - told[k] for k in free)
+        given.append([k for k in free if whole[k] - told[k] == best][0])
+        told[given[-1]] += 1
+    return tuple(told)
 
 
 class Slow:
@@ -159,7 +173,74 @@ class Slow:
                     lost.append(day)
         return lost
 
+    def counted(self, week, name):
+        """The days of the week whose evenings found the name and that it didn't lose."""
+        return len([row for row in self.of("evening") if row[1] // 7 == week and name in row[2]
+                    and row[1] not in self.lost(name)])
+
+    def chest(self):
+        return sum(row[-1] for row in self.of("rent")) - sum(row[-1] for row in self.of("paid", "back"))
+
+    def owed(self):
+        """All that was due by a week, less what was paid, given back, struck of it since."""
+        left = {}
+        for row in self.of("due", "paid", "back", "struck"):
+            of, name, pence = row[-3:]
+            left[of, name] = left.get((of, name), 0) + (pence if row[0] == "due" else -pence)
+        return [(of, name, pence) for (of, name), pence in sorted(left.items()) if pence]
+
+    def pay(self, some):
+        return tuple(some) if self.chest() >= sum(some) else slow_shares(some, self.chest())
+
+    def papers(self):
+        """Of each week reckoned its paper."""
+        told = {}
+        for row in self.of("due", "paid", "back", "reckoned"):
+            paper = told.setdefault(row[1], ([], [], []))
+            if row[0] in ("due", "paid"):
+                paper[row[0] == "paid"].append(row[2:])
+            elif row[0] == "back":
+                paper[2].append(row[2:])
+        return {week: tuple(tuple(part) for part in paper) for week, paper in told.items()}
+
+    def sums(self):
+        words = ("rent", "paid", "back")
+        told = [sum(row[-1] for row in self.of(word)) for word in words]
+        owed, struck = sum(row[-1] for row in self.owed()), sum(row[-1] for row in self.of("struck"))
+        return tuple(told) + (owed, struck, self.chest())
+
+    def gowns(self, name):
+        if name not in self.ever_in():
+            return []
+        first, many = self.ever_in()[name][2], 364 * self.deed[3][3]
+        return [first] + [day for _, day, found in self.of("evening")
+                          if name in found and day > first and (day - first) % many == 0]
+
+    def has(self, name, day):
+        rows = [row for row in self.of("in") if row[4] == name and name not in self.gone()]
+        found = [row[1] for row in self.of("evening") if name in row[2]]
+        cost = [other for other in self.away(name) if other in found and other // 364 == day // 364]
+        return (
+            rows[0][1] if rows else None, rows[0][2:4] if rows else None,
+            sum(row[-1] for row in self.of("paid", "back") if row[-2] == name),
+            sum(row[-1] for row in self.owed() if row[1] == name),
+            len(self.gowns(name)), max(0, self.deed[3][2] - len(cost)),
+        )
+
     # What happens.
+
+    def reckon(self, week):
+        housed = sorted((row[4], self.deed[1][row[1]][1]) for row in map(self.who_is_in, range(len(self.deed[1])))
+                        if row)
+        some = [rate * self.counted(week, name) for name, rate in housed]
+        told = self.pay(some)
+        self.log.append(("reckoned", week))
+        self.log += [("due", week, name, due) for (name, _), due in zip(housed, some)]
+        self.log += [("paid", week, name, pence) for (name, _), pence in zip(housed, told)]
+        for of in sorted({row[0] for row in self.owed()}):
+            rows = [row for row in self.owed() if row[0] == of]
+            told = self.pay([row[2] for row in rows])
+            self.log += [("back", week, of, row[1], pence) for row, pence in zip(rows, told) if pence]
 
     def ask(self, place, day, number):
         row = self.row()
@@ -188,6 +269,8 @@ class Slow:
                 self.ask(place, day, 1000)
         rows = [self.who_is_in(place) for place in range(len(self.deed[1]))]
         self.log.append(("evening", day, [row[4] for row in rows if row]))
+        if (day + 1) % 7 == 0:
+            self.reckon(day // 7)
 
     def to(self, day):
         """Walks all evenings ahead of the day."""
@@ -242,6 +325,8 @@ class Slow:
             self.log.append(("away", rest[0], day, rest[1]))
         if kind == "sell":
             self.seats(rest[0], rest[1])
+        if kind == "rent":
+            self.log.append(("rent", rest[0]))
         if kind == "name":
             turn = self.open_turn(rest[1])[0]
             self.log.append(("in", rest[1], day, number, rest[2], ("named", turn, rest[0])))
@@ -257,6 +342,7 @@ class Slow:
         mine = [row[1] for row in self.of("in") if row[4] == name]
         heir = dict(self.heirs()).get(name)
         self.log.append(("went", name))
+        self.log += [("struck", name, of, name, pence) for of, other, pence in self.owed() if other == name]
         self.seats(name, None if heir in self.gone() else heir)
         if mine and self.deed[1][mine[0]][0] == "row":
             self.ask(mine[0], day, number)
@@ -280,7 +366,24 @@ class Slow:
             "holders": self.holders(), "heirs": self.heirs(), "turns": self.turn_rows(), "history": self.history(),
             "open": [self.open_turn(place) for place in places],
             "away": {name: self.away(name) for name in names}, "lost": {name: self.lost(name) for name in names},
+            "gowns": {name: self.gowns(name) for name in names},
+            "has": {name: self.has(name, day) for name in names},
+            "papers": self.papers(), "owed": self.owed(), "chest": self.chest(), "sums": self.sums(),
+            "struck": [row[1:3] + row[4:] for row in self.of("struck")],
         }
+
+
+def slow_weeks(deed, book, weeks):
+    """All that is told behind the reckoning of each of the weeks, in one walk."""
+    slow, left, told = Slow(deed), list(book), []
+    for week in weeks:
+        while left and left[0][0] <= 7 * week + 6:
+            slow.page(left.pop(0))
+        slow.to(7 * week + 7)
+        facts = slow.facts(7 * week + 6)
+        facts["counted"] = {name: slow.counted(week, name) for name in slow.came()}
+        told.append(facts)
+    return told
 
 
 def slow_facts(deed, book, moment):
@@ -412,4 +515,31 @@ def walked_books():
         deed = some_deed(rng)
         book = some_book(rng, deed, rng.choice((6, 20, 30, 40)))
         rows += [(deed, book, moment, slow_facts(deed, book, moment)) for moment in some_moments(rng, book)]
+    return tuple(rows)
+
+
+def with_rents(rng, book, most):
+    """The book with some rents more, at times just behind a reckoning or just ahead of it."""
+    first, last = book[0][0], book[-1][0]
+    some = set()
+    for _ in range(rng.choice((0, 2, 5, 8))):
+        day = rng.randint(first, min(last + 15, 99999))
+        some.add((day - rng.choice((0, day % 7 if day - day % 7 >= first else 0)), rng.randint(0, 999), "rent",
+                  rng.choice((1, rng.randint(0, most)))))
+    return tuple(sorted(set(book) | some, key=stands))
+
+
+@lru_cache(maxsize=None)
+def walked_weeks():
+    """Rows (deed, book, week, all that is told behind its reckoning), week by week of each book."""
+    rng = maker(60)
+    rows = []
+    for _ in range(45):
+        deed = some_deed(rng)
+        # Terms such that days are lost and rows are let in soon.
+        deed = deed[:3] + ((rng.randint(1, 2), 1, rng.randint(0, 3), 1),)
+        book = with_rents(rng, some_book(rng, deed, rng.choice((20, 40, 50))), rng.choice((20, 200, 900)))
+        first, last = book[0][0] // 7, min(book[-1][0] // 7 + 3, 14284)
+        weeks = range(first, last + 1)
+        rows += [(deed, book) + row for row in zip(weeks, slow_weeks(deed, book, weeks))]
     return tuple(rows)

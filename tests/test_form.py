@@ -14,9 +14,9 @@ NODES = (
     "Module ImportFrom alias FunctionDef ClassDef arguments arg Return Assign AugAssign For While If Raise Pass Expr "
     "Break Continue BoolOp And Or BinOp Add Sub Mult FloorDiv Mod UnaryOp Not USub IfExp Compare Eq NotEq Lt LtE Gt "
     "GtE Is IsNot In NotIn Call Constant Attribute Subscript Slice Name Load Store Tuple List ListComp GeneratorExp "
-    "comprehension Dict DictComp SetComp keyword"
+    "comprehension Dict DictComp SetComp keyword Delete Del"
 ).split()
-CALLED = "len range min max sum isinstance list tuple dict sorted all any divmod ValueError".split()
+CALLED = "len range min max sum isinstance list tuple dict sorted all any divmod zip ValueError".split()
 METHODS = "append count index get setdefault".split()
 BARRED = (
     "register mro elements open input law version_info type vars id dir copyright license exit compile super typing "

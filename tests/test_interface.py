@@ -35,6 +35,14 @@ INTERFACE = {
     "history": ("history(deed, book, moment)",),
     "skipchecker": ("lets_skips(deed, book, moment, number, thing)",),
     "away": ("away_days(deed, book, moment, name)", "lost_days(deed, book, moment, name)"),
+    "counting": ("counted(deed, book, week, name)", "dues(deed, book, week)"),
+    "shares": ("shares(some, pence)",),
+    "sharechecker": ("lets_shares(some, pence, thing)",),
+    "reckoning": ("week_paper(deed, book, week)", "owed(deed, book, week)", "chest(deed, book, week)",
+                  "struck(deed, book, week)"),
+    "weekchecker": ("lets_week(deed, book, week, thing)",),
+    "sums": ("sums(deed, book, week)",),
+    "gowns": ("gowns(deed, book, moment, name)",),
 }
 
 
