@@ -1,4 +1,4 @@
-"""Of any thing: whether it is a moment, a page; and how pages stand."""
+"""Of any thing: whether it is a day, a moment, a page; and how pages stand."""
 
 from almsrow.kinds import is_count, is_from, is_number, is_tuple, is_word
 
@@ -7,11 +7,16 @@ LAST_DAY = 99999
 EVENING = 1000
 
 
+def is_day(thing):
+    """True of a number from 0 to the last day."""
+    return _is_up_to(thing, LAST_DAY)
+
+
 def is_moment(thing):
     """True of a day and a number up to that of the evening."""
     if not is_tuple(thing, 2):
         return False
-    return _is_up_to(thing[0], LAST_DAY) and _is_up_to(thing[1], EVENING)
+    return is_day(thing[0]) and _is_up_to(thing[1], EVENING)
 
 
 def is_page(thing):

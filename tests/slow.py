@@ -386,15 +386,20 @@ def slow_weeks(deed, book, weeks):
     return told
 
 
-def slow_facts(deed, book, moment):
-    """All that is told behind the moment of the book."""
+def slow_behind(deed, book, moment):
+    """The log behind the moment of the book."""
     slow = Slow(deed)
     pages = [page for page in book if page[:2] <= moment]
     for page in pages:
         slow.page(page)
     if pages:
         slow.to(moment[0] + (moment[1] == 1000))
-    return slow.facts(moment[0])
+    return slow
+
+
+def slow_facts(deed, book, moment):
+    """All that is told behind the moment of the book."""
+    return slow_behind(deed, book, moment).facts(moment[0])
 
 
 # Deeds and books made by a seed.

@@ -14,10 +14,10 @@ NODES = (
     "Module ImportFrom alias FunctionDef ClassDef arguments arg Return Assign AugAssign For While If Raise Pass Expr "
     "Break Continue BoolOp And Or BinOp Add Sub Mult FloorDiv Mod UnaryOp Not USub IfExp Compare Eq NotEq Lt LtE Gt "
     "GtE Is IsNot In NotIn Call Constant Attribute Subscript Slice Name Load Store Tuple List ListComp GeneratorExp "
-    "comprehension Dict DictComp SetComp keyword Delete Del"
+    "comprehension Dict DictComp SetComp keyword Delete Del Try ExceptHandler Starred"
 ).split()
-CALLED = "len range min max sum isinstance list tuple dict sorted all any divmod zip ValueError".split()
-METHODS = "append count index get setdefault".split()
+CALLED = "len range min max sum isinstance list tuple dict sorted all any divmod zip str int ValueError".split()
+METHODS = "append count index get setdefault split join pop startswith".split()
 BARRED = (
     "register mro elements open input law version_info type vars id dir copyright license exit compile super typing "
     "enum namedtuple os sys gc format"
@@ -83,7 +83,22 @@ class TestForm(unittest.TestCase):
             for node in tree.body[1:]:
                 self.assertIsInstance(node, (ast.ImportFrom, ast.FunctionDef, ast.ClassDef, ast.Assign), name)
                 if isinstance(node, ast.Assign):
-                    ast.literal_eval(node.value)
+                    self.assertEqual(len(node.targets), 1, name)
+                    self.plain(node.value, [part.name for part in tree.body if isinstance(part, ast.FunctionDef)
+                                            and part.lineno < node.lineno])
+
+    def plain(self, value, functions):
+        """Literals, and tables of literals or of functions defined above."""
+        if isinstance(value, ast.Dict):
+            self.assertNotIn(None, value.keys)
+            for key, part in zip(value.keys, value.values):
+                ast.literal_eval(key)
+                if isinstance(part, ast.Name):
+                    self.assertIn(part.id, functions)
+                else:
+                    self.assertNotIsInstance(ast.literal_eval(part), (list, dict))
+        else:
+            self.assertIsInstance(ast.literal_eval(value), (int, str, tuple))
 
     def test_imports_name_the_defining_file(self):
         for name, node in nodes(ast.ImportFrom):
@@ -117,7 +132,7 @@ class TestForm(unittest.TestCase):
                 self.assertNotIn(told, imported, name)
                 self.assertRegex(told, r"^(_|_?[A-Za-z][A-Za-z0-9_]*)$", name)
                 self.assertNotRegex(told, r"^_(wall|pe_|dcw_|enum_|cm_|twin_re_|lay_|law_|stub_|sre|cold|outside|record)")
-            self.assertFalse(set(bound_names(tree)) & defined, name)
+            self.assertFalse(set(bound_names(tree)) & {part.name for part in tree.body if hasattr(part, "name")}, name)
 
     def test_what_is_called(self):
         for name, node in nodes(ast.Call):
@@ -129,15 +144,49 @@ class TestForm(unittest.TestCase):
             elif hasattr(builtins, node.func.id):
                 self.assertIn(node.func.id, CALLED, name)
 
+    def test_each_call_passes_what_its_function_takes(self):
+        for name, tree in TREES.items():
+            from_where = {part.name: name for part in tree.body if isinstance(part, (ast.FunctionDef, ast.ClassDef))}
+            from_where.update({alias.name: node.module.split(".")[1] for node in ast.walk(tree)
+                               if isinstance(node, ast.ImportFrom) for alias in node.names})
+            for node in ast.walk(tree):
+                if isinstance(node, ast.Call) and isinstance(node.func, ast.Name) and node.func.id in from_where:
+                    self.assertEqual(len(node.args), self.takes(from_where[node.func.id], node.func.id), (name, node.func.id))
+
+    def takes(self, file, told):
+        """How many arguments the function or class of that file takes."""
+        part = [part for part in TREES[file].body if getattr(part, "name", None) == told][0]
+        if isinstance(part, ast.FunctionDef):
+            return len(part.args.args)
+        inits = [some for some in part.body if isinstance(some, ast.FunctionDef) and some.name == "__init__"]
+        return len(inits[0].args.args) - 1
+
+    def test_tries_catch_own_refusals(self):
+        errors = set(defined_names(TREES["errors"]))
+        for name, node in nodes(ast.Try):
+            self.assertFalse(node.finalbody or node.orelse, name)
+            for handler in node.handlers:
+                self.assertIn(handler.type.id, errors, name)
+                self.assertIsNone(handler.name)
+
+    def test_joins_and_stars(self):
+        for name, node in nodes(ast.Call):
+            if isinstance(node.func, ast.Attribute) and node.func.attr == "join":
+                self.assertIsInstance(node.func.value, ast.Constant, name)
+        calls = [part for _, node in nodes(ast.Call) for part in node.args]
+        for name, node in nodes(ast.Starred):
+            self.assertIn(node, calls, name)
+            self.assertIsInstance(node.value, ast.Name, name)
+
     def test_generator_expressions_stand_in_all_and_any(self):
         inside = [id(node.args[0]) for _, node in nodes(ast.Call)
                   if isinstance(node.func, ast.Name) and node.func.id in ("all", "any")]
         for name, node in nodes(ast.GeneratorExp):
             self.assertIn(id(node), inside, name)
 
-    def test_set_comprehensions_stand_in_sorted(self):
+    def test_set_comprehensions_stand_in_sorted_and_len(self):
         inside = [id(node.args[0]) for _, node in nodes(ast.Call)
-                  if isinstance(node.func, ast.Name) and node.func.id == "sorted" and not node.keywords]
+                  if isinstance(node.func, ast.Name) and node.func.id in ("sorted", "len") and not node.keywords]
         for name, node in nodes(ast.SetComp):
             self.assertIn(id(node), inside, name)
 

@@ -43,6 +43,19 @@ INTERFACE = {
     "weekchecker": ("lets_week(deed, book, week, thing)",),
     "sums": ("sums(deed, book, week)",),
     "gowns": ("gowns(deed, book, moment, name)",),
+    "having": ("has(deed, book, moment, name)",),
+    "cases": ("is_case(thing)", "saturated(case, day)", "longest(case)"),
+    "waitchecker": ("lets_wait(case, thing)",),
+    "waiting": ("wait_case(deed, book, day, name, untils)", "story_pages(deed, book, day, places, story)",
+                "followed(book, day, pages)"),
+    "texts": ("page_line(page)", "rules_word(rules)", "book_lines(book)", "deed_lines(deed)"),
+    "readings": ("read_page(text)", "read_rules(text)", "read_book(lines)", "read_deed(lines)"),
+}
+
+CLASSES = {
+    "register": ("Register(deed)", "tell(self, thing)", "strike(self, thing)", "take_in(self, other)", "back(self)",
+                 "deed(self)", "book(self)", "deeds(self)", "elder(self, k)"),
+    "desk": ("Desk()", "say(self, row)"),
 }
 
 
@@ -54,3 +67,12 @@ class TestInterface(unittest.TestCase):
                 told = getattr(module, row.split("(")[0])
                 self.assertEqual(told.__name__ + str(inspect.signature(told)), row)
                 self.assertEqual(told.__module__, module.__name__)
+
+    def test_each_class_stands_in_its_file_with_its_methods(self):
+        for name, (told, *methods) in CLASSES.items():
+            made = getattr(importlib.import_module("almsrow." + name), told.split("(")[0])
+            self.assertEqual(made.__name__ + str(inspect.signature(made)), told)
+            self.assertEqual(made.__module__, "almsrow." + name)
+            for method in methods:
+                own = vars(made)[method.split("(")[0]]
+                self.assertEqual(own.__name__ + str(inspect.signature(own)), method)
