@@ -62,9 +62,9 @@ class Desk:
 
     def _things_in(self, form, words):
         """What the words tell by the sorts of the form; None where they tell nothing of the kind."""
-        if form not in SORTS or len(words) < len(SORTS[form]):
+        if form not in SORTS:
             return None
-        # Words too many go to the last one: only a page can be read of several.
+        # Words too many go to the last one: only a page can be read of several. Where some lack it is void.
         sorts = SORTS[form]
         last = len(sorts) - 1
         things = []

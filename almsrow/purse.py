@@ -54,9 +54,9 @@ class Purse:
     def _give_back(self):
         """Pays what is owed as far as the chest goes, the oldest week first; tells what was paid."""
         back = []
-        for week in list(self.debts):
-            if self.chest == 0:
-                break
+        # Each time a week is paid off, or the chest is empty behind it.
+        while self.chest > 0 and self.debts:
+            week = min(self.debts)
             names = list(self.debts[week])
             told = self._spend([self.debts[week][name] for name in names])
             for name, pence in zip(names, told):

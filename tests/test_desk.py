@@ -219,6 +219,12 @@ class TestLooks(DeskCase):
         self.say(self.DESK, "wait alms 39 dot 40,-", "40")
         self.refuse(NoName, self.DESK, "wait alms 99999 dot -,-", name="dot")
 
+    def test_one_until_for_each_place(self):
+        house = HOUSE.replace("place row 3 -", "place row 3 - / place row 4 -")
+        desk = desk_with(FOLK + "10 1 ask cis; 10 2 ask bet; 10 3 ask dot; 15 0 folk eve ely 0 -; 16 0 ask eve", house)
+        self.say(desk, "wait alms 20 eve 40,50,60", "40", "wait alms 20 eve -,-,60", "60")
+        self.no_row(desk, "wait alms 20 eve 40,50", "wait alms 20 eve 40,50,60,70", "wait alms 20 eve 40")
+
     def test_looks_turn_nothing(self):
         before = self.DESK.say("book alms"), self.DESK.say("deeds alms")
         for asked in ("placed alms 40.1", "row alms 40.1", "owed alms 9", "gowns alms 40.1 cis", "wait alms 20 eve 40,50",

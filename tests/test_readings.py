@@ -149,7 +149,7 @@ class TestRules(ReadingCase):
                      "age:60", "age:60:", "age::60", "age:60:-:", "age:-:60", "age:-:-", "age:60:60", "age:60:59", "age:0:0",
                      "age:60:-|", "town", "town:", "town:,", "town:ely,", "town:,ely", "town:ely,,york", "town:york,ely",
                      "town:ely,ely", "town:Ely", "town:ninesigns", "town:ely:york", "town:-", "town:1", "out:york,ely",
-                     "out:", "Town:ely", "KIN:2", "near:2", "kin:2,3", "kin=2", "2", "none", "age:60:-,kin:2", "town:ely;york"):
+                     "out:", "Town:ely", "KIN:2", "near:2", "near:60:70", "ages:60:-", "kin:2:3", "town:5:7", "near:ely", "age:ely", "kin:2,3", "kin=2", "2", "none", "age:60:-,kin:2", "town:ely;york"):
             self.refuse(read_rules, word, 0, 0)
             if word != "":
                 self.refuse(read_rules, word + " -", 0, 0)

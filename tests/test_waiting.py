@@ -69,6 +69,8 @@ class TestWaitCase(unittest.TestCase):
         # Nobody is in place 0 any more: bet waits no longer for it than until she is fit.
         self.tell(8, "bet", (1, 4), (30, ("dot", "cis")), (60, ("dot", "cis")),
                   book=BOOK + ((8, 0, "go", "fay"),))
+        # An empty place isn't told either, for which she is fit on the next day.
+        self.tell(9, "bet", (1, 4), (30, ("dot", "cis")), (60, ("dot", "cis")), book=BOOK + ((8, 0, "go", "fay"),))
         # One of sort "turn" isn't told, though it fell and went by the row.
         deed, book = DEED[:3] + ((1, 1, 0, 1),), BOOK + book_of("8 0 go hob")
         self.assertEqual(placed(deed, book, (9, 1000))[2], ("dot", 9, 1000))
