@@ -10,7 +10,7 @@ def is_case(thing):
 
 
 def saturated(case, day):
-    """"each" and a name for each row up to the day, or "set" and rows that are more than their names."""
+    """Of the rows up to the day: "each" and a name for each one, or "set" and some that are more than their names."""
     return _each({r: case[r][1] for r in range(len(case)) if case[r][0] <= day})
 
 
